@@ -1,0 +1,1 @@
+"""Keyedtime: taps of an unsteady hand, read by exact widths."""
