@@ -21,16 +21,21 @@ def asked_by_pairs(times, reading):
     ]
 
 
-def least_width(taps, reading):
-    """Tell the least width that allows the reading, and the first pair that asks it."""
-    times = taps.times()
-    check_reading(times, reading)
+def least_asked(times, reading):
+    """Tell the least width that allows the reading of the times, and the first pair that asks it."""
     # Each time asks 0 with itself, so nothing below 0 is ever the greatest.
     width, asking = (0, 1), (0, 0)
     for pair, ratio in asked_by_pairs(times, reading):
         if is_above(ratio, width):
             width, asking = ratio, pair
     return (lowest(width), asking)
+
+
+def least_width(taps, reading):
+    """Tell the least width that allows the reading, and the first pair that asks it."""
+    times = taps.times()
+    check_reading(times, reading)
+    return least_asked(times, reading)
 
 
 def is_allowed(taps, reading, width):

@@ -10,6 +10,7 @@ from keyedtime import widths
 from keyedtime.errors import BadReading, BadWidth
 from keyedtime.taps import Taps
 from keyedtime.widths import barring, is_allowed, least_width, units
+from tests.by_words import asked_widths, drawn, drawn_widths, pair_of
 
 BY_WIDTH = (is_allowed, units, barring)
 
@@ -200,15 +201,6 @@ class BarringTest(unittest.TestCase):
         self.assertEqual(barring(Taps([1, 2, 1, 4, 1]), [1, 1, 1, 1, 1], (1, 3)), (3, 0))
 
 
-def asked_widths(times, reading):
-    """The words of point [6], with fractions: the width that each pair asks, in the pairs' order."""
-    told = {}
-    for one, (s, k) in enumerate(zip(times, reading)):
-        for other, (t, l) in enumerate(zip(times, reading)):
-            told[(one, other)] = Fraction(s * l - t * k, s + t)
-    return told
-
-
 def unit_bounds(times, reading, width):
     """The words of point [5], with fractions; the greatest is None where nothing bounds the unit."""
     least = max(Fraction(time) / (number + width) for time, number in zip(times, reading))
@@ -219,30 +211,6 @@ def unit_bounds(times, reading, width):
 def allows(times, reading, width):
     least, greatest = unit_bounds(times, reading, width)
     return greatest is None or least <= greatest
-
-
-def pair_of(fraction):
-    return (fraction.numerator, fraction.denominator)
-
-
-def drawn(chance):
-    """Times and a reading; mostly near to each other, sometimes far from it."""
-    many = chance.choice((1, 3, 5, 7, 25))
-    reading = [chance.choice((1, 3, 7) if at % 2 else (1, 3)) for at in range(many)]
-    if chance.random() < 0.2:
-        most = chance.choice((3, 20, 9999))
-        return [chance.randint(1, most) for _ in reading], reading
-    unit, shaken = chance.randint(1, 1000), chance.choice((0, 5, 30, 60, 95))
-    times = [number * unit * chance.randint(100 - shaken, 100 + shaken) // 100 for number in reading]
-    return [max(1, min(9999, time)) for time in times], reading
-
-
-def drawn_widths(chance, least):
-    """Some widths below 1: any one, those at and close to the least one, and 0."""
-    bottom = chance.randint(1, 40)
-    near = [least, least - Fraction(1, 10 ** 9), least + Fraction(1, 10 ** 9), Fraction(0)]
-    near.append(Fraction(chance.randrange(bottom), bottom))
-    return [width for width in near if 0 <= width < 1]
 
 
 class DrawnTest(unittest.TestCase):
